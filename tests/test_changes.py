@@ -2,13 +2,10 @@
 
 import unittest
 
-from tests.helper import FOURTEEN, LARGEST, last, run
+from tests.helper import FOURTEEN, FULL, LARGEST, PATH, last, run
 
-# 0 -1- 1 -1- 2 -1- 3
-PATH = [("begin", 4), ("line", 0, 1, 1), ("line", 1, 2, 1), ("line", 2, 3, 1)]
 # 3 in the middle, 0, 1, 2 and 4 around it
 STAR = [("begin", 5), ("line", 0, 3, 2), ("line", 1, 3, 2), ("line", 2, 3, 2), ("line", 3, 4, 2)]
-FULL = [("begin", 8)] + [("line", a, b, 50) for a, b in FOURTEEN]
 
 
 class Line(unittest.TestCase):

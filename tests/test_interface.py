@@ -8,7 +8,7 @@ import pathlib
 import unittest
 
 import threetimes.places
-from tests.helper import FOURTEEN, LARGEST, flat, run
+from tests.helper import FOURTEEN, LARGEST, WIDTHS, flat, run
 from threetimes.places import answers
 
 PACKAGE = pathlib.Path(threetimes.places.__file__).parent
@@ -17,6 +17,8 @@ SOURCES = sorted(PACKAGE.glob("*.py"))
 SOME = flat([
     ("lines",), ("begin", 0), ("begin", 6), ("line", 4, 1, 7), ("line", 1, 2, 3), ("turn", 4), ("lines",),
     ("chosen",), ("nearest", 2), ("near", 2), ("nearest", 0), ("cut", 0), ("greedy", 2), ("best",),
+    ("dist", 1, 4), ("dist", 0, 1), ("told", 4, 1), ("told", 0, 1), ("knows", 1), ("all",), ("ifchosen", 3),
+    ("first", 1, 2), ("worst",), ("leastall",), ("back",), ("state",), ("choose", 63), ("back",), ("back",),
 ])
 
 
@@ -36,8 +38,22 @@ class HandedInAndGivenBack(unittest.TestCase):
         self.assertEqual(answers([0, 3, 4, 1, 9, 1, 9, 0]), [1, 0, 1, 5, 2, 1, 0, 1, -33])
         self.assertEqual(answers([0, 3, 4, 1, 10, 1, 10, 0]), [1, 0, 1, 5, 1, 0, 2, 1, 0])
 
+    def test_by_the_numbers_of_the_document_from_11_to_20(self):
+        self.assertEqual(answers([0, 3, 1, 2, 0, 5, 11, 0, 2]), [1, 0, 1, 5, 1, 5])
+        self.assertEqual(answers([0, 3, 1, 2, 0, 5, 12, 2, 0]), [1, 0, 1, 5, 1, 5])
+        self.assertEqual(answers([0, 3, 1, 2, 0, 5, 13, 2]), [1, 0, 1, 5, 1, 2])
+        self.assertEqual(answers([0, 3, 1, 2, 0, 5, 14]), [1, 0, 1, 5, 1, 5])
+        self.assertEqual(answers([0, 3, 1, 2, 0, 5, 15, 7]), [1, 0, 1, 5, 1, 9])
+        self.assertEqual(answers([0, 3, 1, 2, 0, 5, 16, 2, 8]), [1, 0, 1, 5, 3, 2, 2, 0])
+        self.assertEqual(answers([0, 3, 1, 2, 0, 5, 17]), [1, 0, 1, 5, 5, 0, 0, 2, 5, 5])
+        self.assertEqual(answers([0, 3, 1, 2, 0, 5, 18]), [1, 0, 1, 5, 2, 5, 0])
+        self.assertEqual(answers([0, 3, 1, 2, 0, 5, 19, 7]), [1, 0, 1, 5, 1, 0, 1, 0])
+        self.assertEqual(answers([0, 3, 1, 2, 0, 5, 20]), [1, 0, 1, 5, 4, 3, 1, 0, 1])
+
     def test_a_refusal_is_its_number_alone(self):
         self.assertEqual(answers([7, 8, 9, 0, 10, 0]), [1, -11] * 4)
+        self.assertEqual(answers([16, 0, 1, 17, 18, 19, 20]), [1, -11] * 5)
+        self.assertEqual(answers([0, 7, 16, 7, 1, 16, 0, 0, 17, 18, 19]), [1, 0, 1, -2, 1, -22, 1, -33, 1, -28, 1, -6])
         self.assertEqual(answers([0, 1, 9, 0, 9, 1, 10, 1]), [1, 0, 1, -33, 1, -2, 1, -2])
 
     def test_no_lists_are_as_many_numbers_as_told(self):
@@ -55,12 +71,22 @@ class HandedInAndGivenBack(unittest.TestCase):
                 ("choose", LARGEST), ("turn", LARGEST), ("greedy", LARGEST), ("nearest", LARGEST),
                 ("near", LARGEST), ("begin", LARGEST)),
             [[0], [-2], [-22], [-2], [-22], [-2], [-22], [-2], [-2], [-22]])
+        self.assertEqual(
+            run(("begin", 8), ("dist", LARGEST, 0), ("dist", 0, LARGEST), ("told", LARGEST, 0), ("told", 0, LARGEST),
+                ("knows", LARGEST), ("ifchosen", LARGEST), ("first", LARGEST, 1), ("first", 0, LARGEST),
+                ("first", LARGEST, LARGEST), ("state",)),
+            [[0], [-2], [-2], [-2], [-2], [-2], [-22], [-2], [-22], [-2], [8, 0, 0, 0]])
 
     def test_256_calls(self):
         calls = [("begin", 8)] + [("line", a, b, 9) for a, b in FOURTEEN] + [("lines",)] * 241
         parts = run(*calls)
         self.assertEqual(len(parts), 256)
         self.assertEqual(parts[-1], [14] + [number for a, b in FOURTEEN for number in (a, b, 9)])
+
+    def test_256_calls_of_each_kind(self):
+        for name, width in WIDTHS.items():
+            call = (name,) + (1,) * width
+            self.assertEqual(len(run(("begin", 6), *[call] * 255)), 256)
 
     def test_1024_numbers(self):
         self.assertEqual(answers([1, 0, 1, 9] * 256), [1, -11] * 256)

@@ -2,12 +2,7 @@
 
 import unittest
 
-from tests.helper import LARGEST, last, run
-
-# 0 -1- 1 -1- 2 -1- 3
-PATH = [("begin", 4), ("line", 0, 1, 1), ("line", 1, 2, 1), ("line", 2, 3, 1)]
-# 0 -4- 1 -4- 2, and 3 -9- 4 by themselves
-PIECES = [("begin", 5), ("line", 0, 1, 4), ("line", 1, 2, 4), ("line", 3, 4, 9)]
+from tests.helper import LARGEST, PATH, PIECES, last, run
 
 
 class Nearest(unittest.TestCase):

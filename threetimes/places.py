@@ -11,12 +11,22 @@ LINES = 7
 CHOSEN = 8
 NEAREST = 9
 NEAR = 10
+DIST = 11
+TOLD = 12
+KNOWS = 13
+ALL = 14
+IFCHOSEN = 15
+FIRST = 16
+WORST = 17
+LEASTALL = 18
+BACK = 19
+STATE = 20
 
-# How many whole numbers each call has, by its number. All calls of the
-# document stand here, so that any of them can be read ahead of a begin.
+# How many whole numbers each call has, by its number.
 ARGUMENT_COUNTS = (1, 3, 1, 1, 1, 1, 0, 0, 0, 1, 1, 2, 2, 1, 0, 1, 2, 0, 0, 0, 0)
 
 NO_SUCH = -2
+NO_CHANGE = -6
 NOT_BEGUN = -11
 OUT_OF_RANGE = -22
 TOO_MANY = -28
@@ -27,6 +37,7 @@ MOST_LINES = 14
 MOST_LENGTH = 99
 MOST_NEAREST = 8
 MOST_PLACES_FOR_BEST = 6
+MOST_TAKEN_BACK = 10
 
 # Stands for the distance where no way leads: a way has at most 7 lines of at
 # most 99 each, so every distance is less, and comparing needs no other case.
@@ -65,11 +76,44 @@ def near_places(row, chosen):
     return [v for v in range(len(row)) if row[v] < limit]
 
 
+def told_by_nearest(rows, chosen, u, v):
+    """How far the nearest chosen one of u is from u, and from v, together."""
+    nearest = nearest_chosen(rows[u], chosen)
+    return rows[u][nearest] + rows[v][nearest]
+
+
+def told_distance(rows, chosen, u, v):
+    """What is told of u and v; None if nothing is."""
+    if rows[u][v] == FAR:
+        # No way leads from what is near the one, or is its nearest chosen one, to the other.
+        return None
+    if v in near_places(rows[u], chosen) or u in near_places(rows[v], chosen):
+        return rows[u][v]
+    # A place without a nearest chosen one has all near that a way leads to: so here both have one.
+    return min(told_by_nearest(rows, chosen, u, v), told_by_nearest(rows, chosen, v, u))
+
+
+def worst_told(rows, chosen):
+    """The pair that is told worst, what is told of it, and its distance; None if there is no such pair."""
+    worst = None
+    for u in range(len(rows)):
+        for v in range(u + 1, len(rows)):
+            told = told_distance(rows, chosen, u, v)
+            # Multiplied crosswise, as two quotients are compared exactly in whole numbers.
+            if told is not None and (worst is None or told * worst[3] > worst[2] * rows[u][v]):
+                worst = (u, v, told, rows[u][v])
+    return worst
+
+
+def known_by_one(row, chosen):
+    """How much the place knows whose distances are in row."""
+    return len(near_places(row, chosen)) + len(chosen)
+
+
 def known_by_all(rows, choice):
     """How much all know together, by this choice."""
     chosen = chosen_places(choice, len(rows))
-    near = sum([len(near_places(row, chosen)) for row in rows])
-    return near + len(rows) * len(chosen)
+    return sum([known_by_one(row, chosen) for row in rows])
 
 
 def nearest_places(row, k):
@@ -110,6 +154,8 @@ class Places:
         # Each line is (length, lesser place, other place): so sorted, they are in order.
         self.lines = []
         self.choice = 0
+        # The lines and the choice ahead of each change that can be taken back, the last one's last.
+        self.earlier = []
 
     def rows(self):
         return distances(self.count, self.lines)
@@ -119,6 +165,8 @@ class Places:
 
     def change(self, lines, choice):
         """Every change is made here, with new lists, so that what was can be kept."""
+        earlier = self.earlier + [(self.lines, self.choice)]
+        self.earlier = earlier[-MOST_TAKEN_BACK:]
         self.lines = lines
         self.choice = choice
         return [known_by_all(self.rows(), choice)]
@@ -129,6 +177,7 @@ class Places:
         self.count = n
         self.lines = []
         self.choice = 0
+        self.earlier = []
         return [0]
 
     def line(self, a, b, w):
@@ -167,6 +216,17 @@ class Places:
             return [TOO_MANY]
         return self.change(self.lines, best_choice(self.rows()))
 
+    def back(self):
+        if len(self.earlier) == 0:
+            return [NO_CHANGE]
+        ahead = self.earlier.pop()
+        self.lines = ahead[0]
+        self.choice = ahead[1]
+        return [len(self.earlier)]
+
+    def tell_state(self):
+        return [self.count, len(self.lines), self.choice, len(self.earlier)]
+
     def tell_lines(self):
         told = [len(self.lines)]
         for length, a, b in self.lines:
@@ -192,6 +252,56 @@ class Places:
         near = near_places(self.rows()[v], self.chosen())
         return [len(near)] + near
 
+    def tell_first(self, v, k):
+        if v >= self.count:
+            return [NO_SUCH]
+        if k < 1 or k > MOST_NEAREST:
+            return [OUT_OF_RANGE]
+        first = nearest_places(self.rows()[v], k)
+        return [len(first)] + first
+
+    def tell_dist(self, u, v):
+        if u >= self.count or v >= self.count:
+            return [NO_SUCH]
+        distance = self.rows()[u][v]
+        if distance == FAR:
+            return [THERE_IS_NONE]
+        return [distance]
+
+    def tell_told(self, u, v):
+        if u >= self.count or v >= self.count:
+            return [NO_SUCH]
+        told = told_distance(self.rows(), self.chosen(), u, v)
+        if told is None:
+            return [THERE_IS_NONE]
+        return [told]
+
+    def tell_knows(self, v):
+        if v >= self.count:
+            return [NO_SUCH]
+        return [known_by_one(self.rows()[v], self.chosen())]
+
+    def tell_all(self):
+        return [known_by_all(self.rows(), self.choice)]
+
+    def tell_if_chosen(self, s):
+        if s >= 1 << self.count:
+            return [OUT_OF_RANGE]
+        return [known_by_all(self.rows(), s)]
+
+    def tell_least_all(self):
+        if self.count > MOST_PLACES_FOR_BEST:
+            return [TOO_MANY]
+        rows = self.rows()
+        choice = best_choice(rows)
+        return [known_by_all(rows, choice), choice]
+
+    def tell_worst(self):
+        worst = worst_told(self.rows(), self.chosen())
+        if worst is None:
+            return [THERE_IS_NONE]
+        return [0] + list(worst)
+
 
 def changed(places, number, values):
     """The answer of a call that makes a change, if it isn't refused."""
@@ -208,18 +318,36 @@ def changed(places, number, values):
     return places.best()
 
 
-def looked(places, number, values):
-    """The answer of a call that only looks."""
+def looked_over(places, number):
+    """The answer of a call that only looks, at the object as a whole."""
     if number == LINES:
         return places.tell_lines()
     if number == CHOSEN:
         return places.tell_chosen()
+    if number == ALL:
+        return places.tell_all()
+    if number == WORST:
+        return places.tell_worst()
+    if number == LEASTALL:
+        return places.tell_least_all()
+    return places.tell_state()
+
+
+def looked_at(places, number, values):
+    """The answer of a call that only looks, at what its whole numbers tell."""
     if number == NEAREST:
         return places.tell_nearest(values[0])
     if number == NEAR:
         return places.tell_near(values[0])
-    # No number would be a right answer to a call that isn't written yet.
-    raise NotImplementedError(f"call {number}")
+    if number == DIST:
+        return places.tell_dist(values[0], values[1])
+    if number == TOLD:
+        return places.tell_told(values[0], values[1])
+    if number == KNOWS:
+        return places.tell_knows(values[0])
+    if number == IFCHOSEN:
+        return places.tell_if_chosen(values[0])
+    return places.tell_first(values[0], values[1])
 
 
 def answered(places, number, values):
@@ -230,7 +358,11 @@ def answered(places, number, values):
         return [NOT_BEGUN]
     if number <= BEST:
         return changed(places, number, values)
-    return looked(places, number, values)
+    if number == BACK:
+        return places.back()
+    if len(values) == 0:
+        return looked_over(places, number)
+    return looked_at(places, number, values)
 
 
 def answers(calls):
